@@ -1,0 +1,1 @@
+"""An outline kept by many hands."""
