@@ -1,16 +1,15 @@
 """The calls that begin a house and that change its outline: begin, make, move, tell, clear, add, less."""
 
 from handsoutline.deeds import BEGINNING, Adding, Clearing, Put, Telling
-from handsoutline.outline import outline_of, row_of
-from handsoutline.refusals import FULL, NOT_THERE, NO_DESK, WITHIN, WRONG
+from handsoutline.fields import LAST_FIELD
+from handsoutline.outline import outline_of, refusal_about, row_of
+from handsoutline.refusals import FULL, NOT_REFUSED, NOT_THERE, NO_DESK, WITHIN, WRONG
 from handsoutline.spots import right_behind
 from handsoutline.state import do_deed, has_desk, is_full
 from handsoutline.tree import BIN, ROOT, is_there, line_up
 
 MOST_DESKS = 6
-LAST_FIELD = 2
 GREATEST_TOLD = 1000000000
-NOT_REFUSED = 0
 
 
 def begin(house, desks):
@@ -89,10 +88,9 @@ def do_to_thing(house, desk, is_wrong, act):
 
 
 def refusal_to_thing(house, desk, is_wrong, thing):
-    if not has_desk(house, desk):
-        return NO_DESK
-    if not is_there(outline_of(house, desk).places, thing):
-        return NOT_THERE
+    refusal = refusal_about(house, desk, thing)
+    if refusal != NOT_REFUSED:
+        return refusal
     if is_wrong:
         return WRONG
     if is_full(house):

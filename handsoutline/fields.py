@@ -2,6 +2,8 @@
 
 from handsoutline.deeds import Adding, Clearing, Telling, has_seen
 
+LAST_FIELD = 2
+
 
 # The tellings, not their values alone, as answers show both.
 def tellings_of(held, thing, field):

@@ -1,7 +1,9 @@
 """The calls on one house, as one flat list, and their answers."""
 
+from handsoutline.asking import ask_amounts, ask_find, ask_line, ask_row, ask_same, ask_tree, ask_values
 from handsoutline.changes import add_amount, begin, clear_field, less_amount, make, move, tell
-from handsoutline.letters import send
+from handsoutline.forgetting import ask_kept, forget
+from handsoutline.letters import comes, send
 from handsoutline.state import House
 from handsoutline.takings import back, redo, undo
 
@@ -16,9 +18,20 @@ BACK = 8
 UNDO = 9
 REDO = 10
 SEND = 11
+COMES = 12
+FORGET = 13
+TREE = 14
+ROW = 15
+LINE = 16
+VALUES = 17
+AMOUNTS = 18
+FIND = 19
+KEPT = 20
+SAME = 21
 
 # How many numbers follow each call's own.
-SIZES = {1: 1, 2: 3, 3: 4, 4: 4, 5: 3, 6: 3, 7: 3, 8: 2, 9: 1, 10: 1, 11: 2}
+SIZES = {1: 1, 2: 3, 3: 4, 4: 4, 5: 3, 6: 3, 7: 3, 8: 2, 9: 1, 10: 1, 11: 2,
+         12: 1, 13: 1, 14: 2, 15: 2, 16: 2, 17: 3, 18: 2, 19: 3, 20: 1, 21: 2}
 
 
 def answers(calls):
@@ -40,11 +53,13 @@ def answers_of(house, calls):
 def answer_of(house, call, numbers):
     if call == BEGIN:
         return begin(house, numbers[0])
-    if call == SEND:
-        return send(house, numbers[0], numbers[1])
-    if call == BACK or call == UNDO or call == REDO:
+    if call <= LESS:
+        return answer_of_change(house, call, numbers)
+    if call <= REDO:
         return answer_of_taking(house, call, numbers)
-    return answer_of_change(house, call, numbers)
+    if call <= FORGET or call == KEPT:
+        return answer_of_keeping(house, call, numbers)
+    return answer_of_question(house, call, numbers)
 
 
 def answer_of_change(house, call, numbers):
@@ -67,3 +82,29 @@ def answer_of_taking(house, call, numbers):
     if call == UNDO:
         return undo(house, numbers[0])
     return redo(house, numbers[0])
+
+
+def answer_of_keeping(house, call, numbers):
+    if call == SEND:
+        return send(house, numbers[0], numbers[1])
+    if call == COMES:
+        return comes(house, numbers[0])
+    if call == FORGET:
+        return forget(house, numbers[0])
+    return ask_kept(house, numbers[0])
+
+
+def answer_of_question(house, call, numbers):
+    if call == TREE:
+        return ask_tree(house, numbers[0], numbers[1])
+    if call == ROW:
+        return ask_row(house, numbers[0], numbers[1])
+    if call == LINE:
+        return ask_line(house, numbers[0], numbers[1])
+    if call == VALUES:
+        return ask_values(house, numbers[0], numbers[1], numbers[2])
+    if call == AMOUNTS:
+        return ask_amounts(house, numbers[0], numbers[1])
+    if call == FIND:
+        return ask_find(house, numbers[0], numbers[1], numbers[2])
+    return ask_same(house, numbers[0], numbers[1])

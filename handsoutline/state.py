@@ -7,11 +7,13 @@ FIRST_MADE = 2
 
 
 class Desk:
-    # Its own row in sure stays unused: of itself a desk is sure of its counts.
+    # Its own place in sure and in heard stays unused: of itself a desk knows its counts and its greatest count.
     def __init__(self, desks):
         self.greatest = 0
         self.counts = [0] * desks
         self.sure = [[0] * desks for other in range(desks)]
+        self.heard = [0] * desks
+        self.forgotten = {}
 
 
 class Letter:
@@ -46,6 +48,10 @@ def is_full(house):
 def had(house, desk):
     counts = house.desks[desk].counts
     return sorted([deed for deed in house.deeds if deed.rank <= counts[deed.desk]], key=stamp)
+
+
+def others_of(house, desk):
+    return [other for other in range(len(house.desks)) if other != desk]
 
 
 def next_count(house, desk):

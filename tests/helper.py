@@ -53,6 +53,51 @@ def send(source, target):
     return [11, source, target]
 
 
+def comes(letter):
+    return [12, letter]
+
+
+def forget(desk):
+    return [13, desk]
+
+
+def tree(desk, thing):
+    return [14, desk, thing]
+
+
+def row(desk, thing):
+    return [15, desk, thing]
+
+
+def line(desk, thing):
+    return [16, desk, thing]
+
+
+def values(desk, thing, field):
+    return [17, desk, thing, field]
+
+
+def amounts(desk, thing):
+    return [18, desk, thing]
+
+
+def find(desk, field, value):
+    return [19, desk, field, value]
+
+
+def kept(desk):
+    return [20, desk]
+
+
+def same(desk, other):
+    return [21, desk, other]
+
+
+def letters(first, *pairs):
+    """For each source and target a letter that's written and comes at once; first is the next letter's number."""
+    return [call for k, pair in enumerate(pairs) for call in (send(*pair), comes(first + k))]
+
+
 def flat(calls):
     return [number for call in calls for number in call]
 
@@ -88,12 +133,10 @@ class Looked:
         return split(answers_of(self.house, flat(calls)))
 
     def hear(self, source, target):
-        """Desk target has had all that desk source has, as behind a letter that came."""
-        there = self.house.desks[source]
-        here = self.house.desks[target]
-        here.counts = [max(pair) for pair in zip(here.counts, there.counts)]
-        here.sure[source] = [max(pair) for pair in zip(here.sure[source], there.counts)]
-        here.greatest = max(here.greatest, there.greatest)
+        """A letter is written and comes at once, if one more may be written."""
+        number = self.do(send(source, target))[0][0]
+        if number >= 0:
+            self.do(comes(number))
 
     def row(self, desk, under):
         return [put.act.thing for put in row_of(outline_of(self.house, desk), under)]
@@ -111,6 +154,17 @@ class Looked:
     def amount(self, desk, thing):
         return amount_of(outline_of(self.house, desk).held, thing)
 
+    def counts(self, desk):
+        return list(self.house.desks[desk].counts)
+
+    def all_asked(self, desk):
+        """All that a desk answers of the outline, call by call."""
+        there = [0, 1] + self.things(desk)
+        found = self.do(*[call for thing in there for call in
+                          (tree(desk, thing), row(desk, thing), line(desk, thing), amounts(desk, thing))])
+        found += self.do(*[values(desk, thing, field) for thing in there for field in range(3)])
+        return found + self.do(*[find(desk, field, value) for field in range(3) for value in range(9)])
+
     def all_rows(self, desk):
         return {under: self.row(desk, under) for under in [0, 1] + self.things(desk)}
 
@@ -124,6 +178,6 @@ class Looked:
         """All that the house keeps, so that a refusal can be shown to change none of it."""
         deeds = [(d.number, d.desk, d.rank, d.count, d.saw, repr(d.act.__class__), vars(d.act))
                  for d in self.house.deeds]
-        desks = [(d.greatest, d.counts, d.sure) for d in self.house.desks]
+        desks = [vars(desk) for desk in self.house.desks]
         letters = [vars(letter) for letter in self.house.letters]
         return repr((deeds, desks, letters, self.house.next_thing))

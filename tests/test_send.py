@@ -19,7 +19,7 @@ class Send(unittest.TestCase):
     def test_it_leaves_out_what_the_other_one_surely_has_had(self):
         looked = Looked(begin(3), add(0, 0, 1), add(1, 0, 1), add(1, 0, 1))
         looked.hear(1, 0)
-        self.assertEqual(looked.do(send(0, 1), send(0, 2), add(0, 0, 1), send(0, 1)), [[0, 1], [1, 3], [3], [2, 2]])
+        self.assertEqual(looked.do(send(0, 1), send(0, 2), add(0, 0, 1), send(0, 1)), [[1, 1], [2, 3], [3], [3, 2]])
 
     def test_what_it_tells_stays_as_it_was_written(self):
         looked = Looked(begin(2), add(0, 0, 1), undo(0), add(1, 0, 1), send(0, 1), add(0, 0, 1))
