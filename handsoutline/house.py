@@ -50,6 +50,7 @@ def answers_of(house, calls):
     return told
 
 
+# Calls of one sort are numbered one behind another, but for kept, which goes with forget.
 def answer_of(house, call, numbers):
     if call == BEGIN:
         return begin(house, numbers[0])
